@@ -1,0 +1,1 @@
+"""Precread: a reader of operators whose table grows as it reads."""

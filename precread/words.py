@@ -5,6 +5,9 @@ from precread.errors import NoWord
 SINGLES = "();"
 LONGEST = 8
 
+# So many words a row may have, brackets too.
+MOST_WORDS = 99
+
 
 def cut(text):
     """The list of the words of a text, in order."""

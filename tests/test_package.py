@@ -13,7 +13,15 @@ INTERFACE = {
                   "NoTree": ["ReadError"], "TooMuch": ["ReadError"]},
     "words.py": {"cut": ["text"], "is_word": ["thing"]},
     "tables.py": {"added": ["table", "telling"], "role": ["table", "word", "ahead"]},
+    "trees.py": {"belongs": ["table", "tree"], "strength": ["table", "tree"],
+                 "enough": ["telling", "place", "power"]},
+    "reading.py": {"tree_of": ["table", "row"]},
+    "showing.py": {"row_of": ["table", "tree"]},
+    "texts.py": {"read": ["text"], "written": ["parts"], "Reader": []},
 }
+
+# The methods that the interface lists for a class, each with its parameters.
+METHODS = {"__init__": ["self"], "take": ["self", "row"], "table": ["self"]}
 
 # The builtins that reach a clock, chance, files or what Python itself holds.
 BARRED = {"open", "input", "print", "eval", "exec", "compile", "id", "hash", "globals",
@@ -26,7 +34,7 @@ def sources():
 
 
 def defined(tree):
-    """The functions of a file with their parameters, the classes with their bases."""
+    """The functions of a file or class with their parameters, the classes with their bases."""
     found = {}
     for node in tree.body:
         if isinstance(node, ast.FunctionDef):
@@ -43,6 +51,14 @@ class Package(unittest.TestCase):
             found = defined(ast.parse((PACKAGE / name).read_text()))
             for thing, with_what in wanted.items():
                 self.assertEqual(found.get(thing), with_what, (name, thing))
+
+    def test_each_method_is_defined_in_its_own_class(self):
+        tree = ast.parse((PACKAGE / "texts.py").read_text())
+        reader, = [node for node in tree.body
+                   if isinstance(node, ast.ClassDef) and node.name == "Reader"]
+        found = defined(reader)
+        for name, wanted in METHODS.items():
+            self.assertEqual(found.get(name), wanted, name)
 
     def test_files_import_only_from_the_package(self):
         for path, tree in sources():

@@ -5,23 +5,10 @@ import unittest
 
 from precread.errors import Clash, NoTelling
 from precread.tables import added, role
-from tests.helper import check_refused, check_same
+from tests.helper import check_refused, check_same, table_of, told
 
 KINDS = ["left", "right", "none", "before", "behind"]
 BEHIND = ["left", "right", "none", "behind"]
-
-
-def told(kind, strength, word):
-    return ("tell", kind, strength, word)
-
-
-def table_of(*tellings):
-    """The table of these tellings, made by added."""
-    table = []
-    for telling in tellings:
-        table = added(table, telling)
-    return table
-
 
 PLUS = told("left", 5, "+")
 MINUS = told("left", 5, "-")
